@@ -3,6 +3,7 @@ package mediawire
 
 import (
 	"mediawire/api"
+	"mediawire/side"
 	"mediawire/wire"
 )
 
@@ -13,16 +14,32 @@ func Encode(p api.Packet) ([]byte, error) { return wire.Encode(p) }
 func Decode(b []byte) (api.Packet, error) { return wire.Decode(b) }
 
 // Conn is one side of a connection.
-type Conn struct{}
+type Conn struct {
+	side *side.Side
+}
 
 // New makes a side (P8).
-func New(c api.Config) (*Conn, error) { return nil, nil }
+func New(c api.Config) (*Conn, error) {
+	s, err := side.New(c)
+	if err != nil {
+		return nil, err
+	}
+	return &Conn{side: s}, nil
+}
+
+// made: the side; one that is closed stands for what New did not make.
+func (c *Conn) made() *side.Side {
+	if c == nil || c.side == nil {
+		return side.Closed()
+	}
+	return c.side
+}
 
 // Send: a stream goes on (P9).
-func (c *Conn) Send(k int, b []byte) error { return nil }
+func (c *Conn) Send(k int, b []byte) error { return c.made().Send(k, b) }
 
 // Finish: a stream ends (P9).
-func (c *Conn) Finish(k int) error { return nil }
+func (c *Conn) Finish(k int) error { return c.made().Finish(k) }
 
 // Reset: a stream is given up, but for its first bytes (P20).
 func (c *Conn) Reset(k int, keep int) error { return nil }
@@ -31,16 +48,16 @@ func (c *Conn) Reset(k int, keep int) error { return nil }
 func (c *Conn) Datagram(id uint64, deadline uint64, b []byte) error { return nil }
 
 // Tick: a tick has passed (P8).
-func (c *Conn) Tick() {}
+func (c *Conn) Tick() { c.made().Tick() }
 
 // Packets: what is to be sent now (P10, P11).
-func (c *Conn) Packets() [][]byte { return nil }
+func (c *Conn) Packets() [][]byte { return c.made().Packets() }
 
 // Receive: a packet came (P12 to P14).
-func (c *Conn) Receive(b []byte) error { return nil }
+func (c *Conn) Receive(b []byte) error { return c.made().Receive(b) }
 
 // Read: bytes of a stream that came, and its state (P15).
-func (c *Conn) Read(k int, most int) ([]byte, int, error) { return nil, 0, nil }
+func (c *Conn) Read(k int, most int) ([]byte, int, error) { return c.made().Read(k, most) }
 
 // Datagrams: messages that came (P19).
 func (c *Conn) Datagrams() []api.Message { return nil }
@@ -49,7 +66,7 @@ func (c *Conn) Datagrams() []api.Message { return nil }
 func (c *Conn) Close() error { return nil }
 
 // Err: why it is closed (P21).
-func (c *Conn) Err() error { return nil }
+func (c *Conn) Err() error { return c.made().Err() }
 
 // Pump lets two sides talk (P22).
 func Pump(a *Conn, b *Conn, ticks int) int { return 0 }

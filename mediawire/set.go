@@ -1,88 +1,40 @@
 package mediawire
 
 import (
-	"slices"
-	"sort"
-
 	"mediawire/api"
+	"mediawire/numbers"
 )
 
 // Set is a set of numbers, as ranges.
 type Set struct {
-	most   int         // as it was asked for: bound says what it means
-	floor  uint64      // all below it counts as in the set
-	ranges []api.Range // rising, with a number or more between
+	set numbers.Set
 }
 
 // NewSet makes a set of so many ranges at the most (P6).
-func NewSet(most int) *Set { return &Set{most: most} }
-
-// bound is asked where it is needed, so that a Set that NewSet did not make has one range too.
-func (s *Set) bound() int { return max(s.most, 1) }
+func NewSet(most int) *Set { return &Set{set: numbers.NewSet(most)} }
 
 // Add: the numbers from lo to hi are in it (P6).
 func (s *Set) Add(lo uint64, hi uint64) {
-	if s == nil {
-		return
+	if s != nil {
+		s.set.Add(lo, hi)
 	}
-	lo = max(lo, s.floor)
-	if lo > hi {
-		return
-	}
-	s.join(api.Range{Lo: lo, Hi: hi})
-	if len(s.ranges) > s.bound() {
-		s.dropLowest()
-	}
-}
-
-// join makes one range of r and all that it touches: those from first to ahead of end.
-func (s *Set) join(r api.Range) {
-	first := sort.Search(len(s.ranges), func(i int) bool { return !apart(s.ranges[i].Hi, r.Lo) })
-	end := sort.Search(len(s.ranges), func(i int) bool { return apart(r.Hi, s.ranges[i].Lo) })
-	if first < end {
-		r.Lo = min(r.Lo, s.ranges[first].Lo)
-		r.Hi = max(r.Hi, s.ranges[end-1].Hi)
-	}
-	s.ranges = slices.Replace(s.ranges, first, end, r)
-}
-
-// apart: a number or more lies between. (Not below+1 < above: the greatest number has none above it.)
-func apart(below uint64, above uint64) bool { return below < above && above-below > 1 }
-
-// dropLowest is called where another range lies above the lowest one: its Hi is not the greatest number.
-func (s *Set) dropLowest() {
-	s.floor = s.ranges[0].Hi + 1
-	s.ranges = slices.Delete(s.ranges, 0, 1)
 }
 
 // Has: is it in it (P7)?
-func (s *Set) Has(n uint64) bool {
-	if s == nil {
-		return false
-	}
-	i := sort.Search(len(s.ranges), func(i int) bool { return s.ranges[i].Hi >= n })
-	return n < s.floor || i < len(s.ranges) && s.ranges[i].Lo <= n
-}
+func (s *Set) Has(n uint64) bool { return s != nil && s.set.Has(n) }
 
 // Floor: what lies below counts as in it (P7).
 func (s *Set) Floor() uint64 {
 	if s == nil {
 		return 0
 	}
-	return s.floor
+	return s.set.Floor()
 }
 
 // Down walks through the ranges, from the last one on (P7).
 func (s *Set) Down() func(yield func(api.Range) bool) {
-	return func(yield func(api.Range) bool) {
-		if s == nil {
-			return
-		}
-		// A walk goes over the ranges as they are when it begins: the loop over it may call Add.
-		for _, r := range slices.Backward(slices.Clone(s.ranges)) {
-			if !yield(r) {
-				return
-			}
-		}
+	if s == nil {
+		s = &Set{}
 	}
+	return s.set.Down()
 }
