@@ -493,6 +493,30 @@ func TestP12ToP15HostileFrames(t *testing.T) {
 	}
 }
 
+func TestP1ReceiveOfTurnedBodies(t *testing.T) {
+	p, _ := every()
+	sound := encoded(t, p)
+	sound = sound[:len(sound)-4]
+	random := rand.New(rand.NewPCG(1, 12))
+	m := newSideModel(t, small)
+	for range 20000 {
+		body := bytes.Clone(sound[:random.IntN(len(sound)+1)])
+		for range random.IntN(3) {
+			if len(body) > 0 {
+				body[random.IntN(len(body))] = byte(random.Uint32())
+			}
+		}
+		m.receive(seal(body))
+		m.receive(body)
+		m.packets()
+		m.read(random.IntN(8), 5)
+		if m.why != nil {
+			m = newSideModel(t, small)
+			m.send(2, body)
+		}
+	}
+}
+
 // FuzzReceive: bytes are cut into packets, each with its sum.
 func FuzzReceive(f *testing.F) {
 	p, _ := every()
