@@ -10,7 +10,7 @@ import (
 	"mediawire/mediawire"
 )
 
-// sideModel is a side, and all that P8 to P15 let one know of it from the calls alone. Each call on it is held to that.
+// sideModel is a side, and all that P8 to P16 let one know of it from the calls alone. Each call on it is held to that.
 type sideModel struct {
 	t *testing.T
 	c *mediawire.Conn
@@ -20,7 +20,7 @@ type sideModel struct {
 	limit    uint64 // granted by the other side, of all streams
 	granted  uint64 // granted to it
 	next     uint64
-	onWay    map[uint64]bool
+	flight   flightModel
 	came     map[uint64]bool
 	numbers  *mediawire.Set
 	due      []uint64 // came since the last Packets, with another frame than Ack
@@ -33,8 +33,7 @@ type outModel struct {
 	finished bool
 	limit    uint64
 	high     uint64 // the highest end that was sent
-	sent     []bool
-	endSent  bool
+	places   [2049]placeModel
 }
 
 type inModel struct {
@@ -47,7 +46,7 @@ type inModel struct {
 }
 
 func newSideModel(t *testing.T, c api.Config) *sideModel {
-	m := &sideModel{t: t, c: newSide(t, c), Config: c, limit: uint64(c.Total), granted: uint64(c.Total), onWay: map[uint64]bool{}, came: map[uint64]bool{}, numbers: mediawire.NewSet(8)}
+	m := &sideModel{t: t, c: newSide(t, c), Config: c, limit: uint64(c.Total), granted: uint64(c.Total), flight: newFlightModel(), came: map[uint64]bool{}, numbers: mediawire.NewSet(8)}
 	for k := range 8 {
 		m.out[k].limit = uint64(c.Window)
 		m.in[k].granted = uint64(c.Window)
@@ -77,9 +76,7 @@ func (m *sideModel) send(k int, b []byte) {
 		m.t.Fatalf("P9: Send(%d, %d bytes) = %v, want %v", k, len(b), err, want)
 	}
 	if want == nil {
-		o := &m.out[k]
-		o.text = append(o.text, b...)
-		o.sent = append(o.sent, make([]bool, len(b))...)
+		m.out[k].text = append(m.out[k].text, b...)
 	}
 }
 
@@ -98,6 +95,7 @@ func (m *sideModel) packets() [][]byte {
 	if m.why != nil {
 		return l
 	}
+	m.lose()
 	var all []api.Packet
 	for _, b := range l {
 		if len(b) > m.MTU {
@@ -109,6 +107,7 @@ func (m *sideModel) packets() [][]byte {
 	}
 	m.answered(all)
 	m.nothingLeft()
+	m.noGrantLeft()
 	m.packetsN += len(l)
 	return l
 }
@@ -125,12 +124,10 @@ func (m *sideModel) onePacket(p api.Packet) {
 		}
 		last = order(f.Kind)
 		m.oneFrame(f)
-		if f.Kind != api.Ack {
-			m.onWay[p.Number] = true
-		}
 	}
-	if len(m.onWay) > 12 {
-		m.t.Fatalf("P16: %d packets are on their way", len(m.onWay))
+	m.takeOff(p)
+	if n := m.flight.count(); n > 12 {
+		m.t.Fatalf("P16: %d packets are on their way", n)
 	}
 }
 
@@ -146,12 +143,14 @@ func (m *sideModel) oneFrame(f api.Frame) {
 		if f.Limit < m.granted || f.Limit > free+uint64(m.Total) {
 			m.t.Fatalf("P11: MaxData %d behind %d, %d bytes were read", f.Limit, m.granted, free)
 		}
+		m.grantIsNew(f)
 		m.granted = f.Limit
 	case api.MaxStream:
 		in := &m.in[f.Stream]
 		if f.Limit < in.granted || f.Limit > in.read+uint64(m.Window) {
 			m.t.Fatalf("P11: MaxStream %d behind %d, %d bytes were read", f.Limit, in.granted, in.read)
 		}
+		m.grantIsNew(f)
 		in.granted = f.Limit
 	}
 }
@@ -166,10 +165,7 @@ func (m *sideModel) dataSent(f api.Frame) {
 		m.t.Fatalf("P11: %+v, %d bytes were written, finished: %t", f, len(o.text), o.finished)
 	}
 	o.high = max(o.high, end)
-	o.endSent = o.endSent || f.Fin
-	for i := f.Offset; i < end; i++ {
-		o.sent[i] = true
-	}
+	m.dataIsNew(f)
 	if m.highs() > m.limit {
 		m.t.Fatalf("P11: %d bytes of all streams, %d are granted", m.highs(), m.limit)
 	}
@@ -206,29 +202,23 @@ func (m *sideModel) answered(l []api.Packet) {
 
 // nothingLeft: P10: what may be sent was sent.
 func (m *sideModel) nothingLeft() {
-	if len(m.onWay) >= 12 {
+	if m.flight.count() >= 12 {
 		return
 	}
 	for k := range m.out {
 		o := &m.out[k]
-		more := o.high < uint64(len(o.text)) && o.high < o.limit && m.highs() < m.limit
-		if more || bytes.Contains(boolBytes(o.sent[:o.high]), []byte{0}) {
+		if o.high < uint64(len(o.text)) && o.high < o.limit && m.highs() < m.limit {
 			m.t.Fatalf("P10: stream %d: %d of %d bytes are sent, %d granted, %d of %d of all", k, o.high, len(o.text), o.limit, m.highs(), m.limit)
 		}
-		if o.finished && !o.endSent && o.high == uint64(len(o.text)) {
-			m.t.Fatalf("P10: stream %d: its end is not sent", k)
+		for i := range o.high {
+			if o.places[i].waits() {
+				m.t.Fatalf("P16: stream %d: byte %d was lost, and is not sent again", k, i)
+			}
+		}
+		if o.finished && o.high == uint64(len(o.text)) && o.places[o.high].waits() {
+			m.t.Fatalf("P10, P16: stream %d: its end is not sent", k)
 		}
 	}
-}
-
-func boolBytes(l []bool) []byte {
-	b := make([]byte, len(l))
-	for i, x := range l {
-		if x {
-			b[i] = 1
-		}
-	}
-	return b
 }
 
 func (m *sideModel) receive(b []byte) {
@@ -282,10 +272,8 @@ func (m *sideModel) takeFrame(f api.Frame) error {
 			if r.Hi >= m.next {
 				return api.ErrAck
 			}
-			for n := r.Lo; n <= r.Hi; n++ {
-				delete(m.onWay, n)
-			}
 		}
+		m.land(f)
 	case api.MaxData:
 		m.limit = max(m.limit, f.Limit)
 	case api.MaxStream:
@@ -324,13 +312,13 @@ func (m *sideModel) takeData(f api.Frame) error {
 	return nil
 }
 
-func (m *sideModel) read(k int, most int) []byte {
+func (m *sideModel) read(k int, most int) ([]byte, int) {
 	b, state, err := m.c.Read(k, most)
 	if m.why != nil {
 		if b != nil || state != 0 || err != api.ErrClosed {
 			m.t.Fatalf("P15: Read of a side that is closed = %q, %d, %v", b, state, err)
 		}
-		return nil
+		return nil, 0
 	}
 	in := &m.in[k]
 	var want []byte
@@ -349,7 +337,7 @@ func (m *sideModel) read(k int, most int) []byte {
 	if !bytes.Equal(b, want) || b != nil && len(b) == 0 || state != wantState || err != nil {
 		m.t.Fatalf("P15: Read(%d, %d) = %q, %d, %v, want %q, %d", k, most, b, state, err, want, wantState)
 	}
-	return b
+	return b, state
 }
 
 func randomConfig(random *rand.Rand) api.Config {
@@ -379,57 +367,10 @@ func (m *sideModel) step(random *rand.Rand) {
 			m.finish(random.IntN(10) - 1)
 		}
 	case 3:
-		m.c.Tick()
+		m.clock()
 	default:
 		m.read(random.IntN(8), random.IntN(1<<random.IntN(12))-1)
 	}
-}
-
-// Two sides talk; packets are lost, doubled, turned around, damaged. (None are sent again yet: only what is asked of each call is held here.)
-func TestP8ToP15Talk(t *testing.T) {
-	packets := 0
-	for seed := range uint64(300) {
-		random := rand.New(rand.NewPCG(8, seed))
-		c := randomConfig(random)
-		sides := [2]*sideModel{newSideModel(t, c), newSideModel(t, c)}
-		losses := []int{0, 0, 5, 30}[random.IntN(4)]
-		var way [2][][]byte
-		for range 300 {
-			for i, m := range sides {
-				m.step(random)
-				if random.IntN(3) == 0 {
-					way[i] = append(way[i], m.packets()...)
-				}
-				for len(way[i]) > 0 && random.IntN(4) > 0 {
-					at := random.IntN(min(len(way[i]), 3))
-					p := way[i][at]
-					way[i] = append(way[i][:at], way[i][at+1:]...)
-					deliver(random, losses, p, sides[1-i])
-				}
-			}
-		}
-		if sides[0].why != nil || sides[1].why != nil {
-			t.Fatalf("P12: %v, %v", sides[0].why, sides[1].why)
-		}
-		packets += sides[0].packetsN + sides[1].packetsN
-	}
-	if packets < 10000 {
-		t.Errorf("only %d packets: the test asks for too little", packets)
-	}
-}
-
-func deliver(random *rand.Rand, losses int, p []byte, to *sideModel) {
-	switch x := random.IntN(100); {
-	case x < losses:
-		return
-	case x < 40:
-		damaged := bytes.Clone(p)
-		damaged[random.IntN(len(p))] ^= 1 << random.IntN(8)
-		to.receive(damaged)
-	case x < 50:
-		to.receive(p)
-	}
-	to.receive(p)
 }
 
 // hostile: a frame that a side might not expect, often at an edge of what it may hold.
@@ -536,6 +477,9 @@ func FuzzReceive(f *testing.F) {
 			m.packets()
 			for k := range 8 {
 				m.read(k, int(cut%16))
+			}
+			for range cut % 8 {
+				m.clock()
 			}
 		}
 	})

@@ -59,6 +59,26 @@ func (s *Set) Has(n uint64) bool {
 	return n < s.floor || i < len(s.ranges) && s.ranges[i].Lo <= n
 }
 
+// Hole: the lowest numbers below end that are not in it: from lo on, ahead of hi. (If there are none, lo is not below hi.)
+func (s *Set) Hole(end uint64) (lo uint64, hi uint64) {
+	lo = s.floor
+	for _, r := range s.ranges {
+		if r.Lo > lo {
+			return lo, min(r.Lo, end)
+		}
+		if r.Hi >= end {
+			return end, end
+		}
+		lo = r.Hi + 1
+	}
+	return lo, end
+}
+
+// Clone: a set of its own, with the same numbers.
+func (s *Set) Clone() Set {
+	return Set{most: s.most, floor: s.floor, ranges: slices.Clone(s.ranges)}
+}
+
 // Floor: what lies below counts as in it (P7).
 func (s *Set) Floor() uint64 { return s.floor }
 

@@ -1,28 +1,43 @@
 package side
 
-import "mediawire/api"
+import (
+	"iter"
 
-// flight: the numbers of the packets on their way. (What Acks alone have is not: nobody answers it.)
-type flight map[uint64]struct{}
+	"mediawire/api"
+)
+
+// flight: packets that no Ack has named yet, by their numbers. (What has Acks alone is never there: nobody answers it.)
+type flight map[uint64]parcel
+
+// parcel: what a packet holds, but for Acks, and the tick at which it was sent.
+type parcel struct {
+	frames []api.Frame
+	tick   uint64
+}
 
 func (f flight) full() bool { return len(f) >= api.MaxFlight }
 
-func (f flight) add(n uint64) { f[n] = struct{}{} }
-
-// land: an Ack names these packets.
-func (f flight) land(named []api.Range) {
-	for n := range f {
-		if names(named, n) {
-			delete(f, n)
+// frames walks through all that the packets hold, in no order.
+func (f flight) frames() iter.Seq[api.Frame] {
+	return func(yield func(api.Frame) bool) {
+		for _, p := range f {
+			for _, x := range p.frames {
+				if !yield(x) {
+					return
+				}
+			}
 		}
 	}
 }
 
-func names(l []api.Range, n uint64) bool {
-	for _, r := range l {
-		if r.Lo <= n && n <= r.Hi {
-			return true
+// take takes out the packets of which wanted says so.
+func (f flight) take(wanted func(n uint64, p parcel) bool) flight {
+	taken := flight{}
+	for n, p := range f {
+		if wanted(n, p) {
+			taken[n] = p
+			delete(f, n)
 		}
 	}
-	return false
+	return taken
 }

@@ -46,7 +46,7 @@ func (a *answers) wait() bool { return len(a.left) > 0 }
 // next: an Ack of as many ranges as have room.
 func (a *answers) next(room int) (api.Frame, bool) {
 	for n := len(a.left); n > 0; n-- {
-		f := api.Frame{Kind: api.Ack, Ranges: a.left[:n]}
+		f := api.Frame{Kind: api.Ack, Ranges: a.left[:n:n]}
 		if wire.Size(f) <= room {
 			a.left = a.left[n:]
 			return f, true

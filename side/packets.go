@@ -7,11 +7,12 @@ import (
 	"mediawire/wire"
 )
 
-// Packets: what is to be sent now (P10, P11).
+// Packets: what is to be sent now (P10, P11, P16).
 func (s *Side) Packets() [][]byte {
 	if !s.open() {
 		return s.part()
 	}
+	s.lose()
 	q := s.sources()
 	var l [][]byte
 	for {
@@ -36,14 +37,14 @@ func (s *Side) part() [][]byte {
 func (s *Side) packet(frames []api.Frame) []byte {
 	p := api.Packet{Number: s.next, Frames: frames}
 	s.next++
-	if wantsAnswer(frames) {
-		s.onWay.add(p.Number)
+	if l := toAnswer(frames); len(l) > 0 {
+		s.onWay[p.Number] = parcel{frames: l, tick: s.tick}
 	}
 	b, _ := wire.Encode(p) // no error: a side makes no frame that P4 has something against
 	return b
 }
 
-// wantsAnswer: there is another frame than Acks.
-func wantsAnswer(frames []api.Frame) bool {
-	return slices.ContainsFunc(frames, func(f api.Frame) bool { return f.Kind != api.Ack })
+// toAnswer: the frames of a packet other than Acks. Where there is one, an Ack must name the packet.
+func toAnswer(frames []api.Frame) []api.Frame {
+	return slices.DeleteFunc(slices.Clone(frames), func(f api.Frame) bool { return f.Kind == api.Ack })
 }

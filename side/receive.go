@@ -28,7 +28,7 @@ func (s *Side) Receive(b []byte) error {
 
 func (s *Side) takeAll(p api.Packet) error {
 	s.came.Add(p.Number, p.Number)
-	s.answer = s.answer || wantsAnswer(p.Frames)
+	s.answer = s.answer || len(toAnswer(p.Frames)) > 0
 	for _, f := range p.Frames {
 		if s.why = s.take(f); !s.open() {
 			return s.why
@@ -57,7 +57,7 @@ func (s *Side) takeAck(f api.Frame) api.Errno {
 	if f.Ranges[0].Hi >= s.next {
 		return api.ErrAck
 	}
-	s.onWay.land(f.Ranges)
+	s.land(f.Ranges)
 	return api.OK
 }
 

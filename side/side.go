@@ -1,4 +1,4 @@
-// Package side: one side of a connection (P8 to P15).
+// Package side: one side of a connection (P8 to P17).
 package side
 
 import (
@@ -18,6 +18,8 @@ type Side struct {
 	answer  bool         // one came that must be answered
 	next    uint64       // the number of the next packet
 	onWay   flight
+	lost    flight
+	named   uint64    // the number above the highest one that an Ack has named
 	why     api.Errno // why it is closed; OK: it is open
 	parted  bool      // the other side was told why
 }
@@ -39,6 +41,7 @@ func New(c api.Config) (*Side, error) {
 		grant:  stream.NewGrant(c.Total),
 		came:   numbers.NewSet(api.MaxRanges),
 		onWay:  flight{},
+		lost:   flight{},
 	}
 	for k := range s.streams {
 		s.streams[k] = both{out: stream.NewOut(c.Window), in: stream.NewIn(c.Window)}

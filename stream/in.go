@@ -99,6 +99,9 @@ func (in *In) cut(n int) []byte {
 	return b
 }
 
+// Grant: what the other side was granted of it.
+func (in *In) Grant() *Grant { return &in.grant }
+
 // GrantWaits: the other side should be told of more room. (Behind a known end it needs none.)
 func (in *In) GrantWaits() bool { return !in.ended && in.grant.Waits(in.read) }
 

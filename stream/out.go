@@ -2,20 +2,31 @@ package stream
 
 import (
 	"mediawire/api"
+	"mediawire/numbers"
 	"mediawire/wire"
 )
 
-// Out is a stream for the side that writes it (P9, P11).
+// Out is a stream for the side that writes it (P9, P11, P16). The place of a byte is its offset; the place of the stream's end is that behind its last byte.
 type Out struct {
 	bytes    []byte // all that were written
 	finished bool
-	limit    uint64 // the other side has granted the bytes ahead of it
-	sent     uint64 // the bytes ahead of it were sent
-	endSent  bool
+	limit    uint64      // the other side has granted the bytes ahead of it
+	sent     uint64      // the bytes ahead of it were sent, once or more often
+	away     numbers.Set // the places that are on their way, or came
+	came     numbers.Set // those that came to the other side for sure
 }
 
+// manyPlaces: a set of a stream's places never has so many ranges, and so no floor.
+const manyPlaces = api.MaxBuffer + 1
+
 // NewOut: a stream of which the other side has granted so many bytes.
-func NewOut(limit int) Out { return Out{limit: uint64(limit)} }
+func NewOut(limit int) Out {
+	return Out{
+		limit: uint64(limit),
+		away:  numbers.NewSet(manyPlaces),
+		came:  numbers.NewSet(manyPlaces),
+	}
+}
 
 // Send: the bytes are the stream's next ones.
 func (o *Out) Send(b []byte) error {
@@ -54,20 +65,52 @@ func (o *Out) reach(credit uint64) uint64 {
 // endsAt: a frame that ends there has its last bytes, and says so.
 func (o *Out) endsAt(end uint64) bool { return o.finished && end == o.length() }
 
+// waiting: the first places that may be sent now: from lo on, ahead of hi. Whether they were lost or never sent is all one.
+func (o *Out) waiting(credit uint64) (lo uint64, hi uint64) {
+	end := o.reach(credit)
+	if o.endsAt(end) {
+		end++
+	}
+	return o.away.Hole(end)
+}
+
 // Waits: bytes, or its end, may be sent now.
 func (o *Out) Waits(credit uint64) bool {
-	return o.reach(credit) > o.sent || o.endsAt(o.sent) && !o.endSent
+	lo, hi := o.waiting(credit)
+	return lo < hi
 }
 
 // Next: the next Data frame of the stream, which is that of number k; false, if what waits has no room.
 func (o *Out) Next(k int, room int, credit uint64) (api.Frame, bool) {
-	bytes := o.bytes[o.sent:o.reach(credit)]
-	f, ok := wire.Fill(api.Frame{Kind: api.Data, Stream: k, Offset: o.sent}, bytes, room)
-	if !ok || len(bytes) > 0 && len(f.Data) == 0 {
+	lo, hi := o.waiting(credit)
+	hi = min(hi, o.length())
+	f, ok := wire.Fill(api.Frame{Kind: api.Data, Stream: k, Offset: lo}, o.bytes[lo:hi:hi], room)
+	if !ok || lo < hi && f.Data == "" {
 		return api.Frame{}, false
 	}
-	o.sent += uint64(len(f.Data))
-	f.Fin = o.endsAt(o.sent)
-	o.endSent = f.Fin
+	f.Fin = o.endsAt(EndOf(f))
+	o.sent = max(o.sent, EndOf(f))
+	o.Away(f)
 	return f, true
+}
+
+// Away: a Data frame is on its way.
+func (o *Out) Away(f api.Frame) { addPlaces(&o.away, f) }
+
+// Came: a Data frame came to the other side.
+func (o *Out) Came(f api.Frame) {
+	addPlaces(&o.came, f)
+	o.Away(f)
+}
+
+// Lose: what did not come is no longer on its way.
+func (o *Out) Lose() { o.away = o.came.Clone() }
+
+// addPlaces: those of a Data frame's bytes, and of the end, if it tells that. (It has one of them at least.)
+func addPlaces(s *numbers.Set, f api.Frame) {
+	last := EndOf(f)
+	if !f.Fin {
+		last--
+	}
+	s.Add(f.Offset, last)
 }
