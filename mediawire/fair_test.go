@@ -18,6 +18,9 @@ type caller interface {
 	packets() [][]byte
 	receive(b []byte)
 	read(k int, most int) ([]byte, int)
+	reset(k int, keep int)
+	datagram(id uint64, deadline uint64, b []byte) bool // false: sixteen wait
+	datagrams() []api.Message
 }
 
 // plainCaller asks of the calls only that they have no error.
@@ -30,6 +33,22 @@ func (p plainCaller) send(k int, b []byte) { send(p.t, p.c, k, string(b)) }
 func (p plainCaller) finish(k int)         { finish(p.t, p.c, k) }
 func (p plainCaller) clock()               { p.c.Tick() }
 func (p plainCaller) packets() [][]byte    { return p.c.Packets() }
+
+func (p plainCaller) datagrams() []api.Message { return p.c.Datagrams() }
+
+func (p plainCaller) reset(k int, keep int) {
+	if err := p.c.Reset(k, keep); err != nil {
+		p.t.Fatalf("P20: Reset(%d, %d) = %v", k, keep, err)
+	}
+}
+
+func (p plainCaller) datagram(id uint64, deadline uint64, b []byte) bool {
+	err := p.c.Datagram(id, deadline, b)
+	if err != nil && err != api.ErrFull {
+		p.t.Fatalf("P18: Datagram(%d, %d, %d bytes) = %v", id, deadline, len(b), err)
+	}
+	return err == nil
+}
 
 func (p plainCaller) receive(b []byte) {
 	if err := p.c.Receive(b); err != nil && err != api.ErrSum {
@@ -53,15 +72,20 @@ type talk struct {
 	side    [2]caller
 	text    [2][8][]byte
 	ended   [2][8]bool
+	given   [2][8]bool
+	keep    [2][8]int // of a stream that was given up: so many bytes must come
 	got     [2][8][]byte
 	state   [2][8]int
-	way     [2][][]byte // sent by a side, and not yet there
+	tick    uint64
+	ids     [2]uint64            // the id of a side's next datagram
+	waits   [2]map[uint64]string // datagrams of a side that were not yet handed on by the other
+	way     [2][][]byte          // sent by a side, and not yet there
 	packets int
 	reads   func(k int) []int // how many bytes are read of a stream in a tick, read by read
 }
 
 func newTalk(t *testing.T, seed uint64, c api.Config, side func() caller) *talk {
-	return &talk{t: t, random: rand.New(rand.NewPCG(17, seed)), Config: c, side: [2]caller{side(), side()}, reads: readAll}
+	return &talk{t: t, random: rand.New(rand.NewPCG(17, seed)), Config: c, side: [2]caller{side(), side()}, reads: readAll, waits: [2]map[uint64]string{{}, {}}}
 }
 
 func plainTalk(t *testing.T, seed uint64, c api.Config) *talk {
@@ -79,16 +103,42 @@ func sixteen(int) []int { return slices.Repeat([]int{1}, 16) }
 
 func (x *talk) write(side int, k int, b []byte) {
 	b = b[:min(len(b), 2048-len(x.text[side][k]))]
-	if !x.ended[side][k] {
+	if !x.ended[side][k] && !x.given[side][k] {
 		x.side[side].send(k, b)
 		x.text[side][k] = append(x.text[side][k], b...)
 	}
 }
 
 func (x *talk) end(side int, k int) {
-	if !x.ended[side][k] {
+	if !x.ended[side][k] && !x.given[side][k] {
 		x.side[side].finish(k)
 		x.ended[side][k] = true
+	}
+}
+
+func (x *talk) giveUp(side int, k int, keep int) {
+	x.side[side].reset(k, keep)
+	if !x.given[side][k] {
+		x.given[side][k], x.keep[side][k] = true, len(x.text[side][k])
+	}
+	x.keep[side][k] = min(x.keep[side][k], max(keep, 0))
+}
+
+func (x *talk) message(side int, deadline uint64, b []byte) {
+	if x.side[side].datagram(x.ids[side], deadline, b) {
+		x.waits[side][x.ids[side]] = string(b)
+	}
+	x.ids[side] += 1 + uint64(x.random.IntN(3))
+}
+
+// messages: what is handed on was sent, and was not handed on yet.
+func (x *talk) messages(side int) {
+	for _, m := range x.side[1-side].datagrams() {
+		text, ok := x.waits[side][m.Id]
+		if !ok || text != m.Data {
+			x.t.Fatalf("P19: datagram %d, %q: %q was sent, and not handed on yet: %t", m.Id, m.Data, text, ok)
+		}
+		delete(x.waits[side], m.Id)
 	}
 }
 
@@ -111,6 +161,7 @@ func (x *talk) bound() int {
 
 // read: what came is read, at the side that reads what the other wrote.
 func (x *talk) read(writer int) {
+	x.messages(writer)
 	for k := range 8 {
 		for _, most := range x.reads(k) {
 			b, state := x.side[1-writer].read(k, most)
@@ -142,6 +193,7 @@ func (x *talk) comeAll(side int) {
 
 // bad: a tick of a network that loses, doubles, turns around and spoils packets.
 func (x *talk) bad(losses int) {
+	x.tick++
 	for side := range 2 {
 		x.side[side].clock()
 		for range x.random.IntN(3) {
@@ -173,6 +225,7 @@ func (x *talk) deliver(losses int, p []byte, to caller) {
 
 // fair: a tick in which all that is sent comes; how many packets were sent. The order of what the sides do in a tick is theirs.
 func (x *talk) fair(order int) int {
+	x.tick++
 	x.side[0].clock()
 	x.side[1].clock()
 	n := 0
@@ -212,13 +265,31 @@ func (x *talk) ends(order int) {
 	}
 	for side := range 2 {
 		for k := range 8 {
-			if !bytes.Equal(x.got[side][k], x.text[side][k]) {
-				x.t.Fatalf("P17: %+v, order %d: stream %d: behind %d ticks %d bytes of %d came", x.Config, order, k, x.bound(), len(x.got[side][k]), len(x.text[side][k]))
-			}
-			if x.ended[side][k] != (x.state[side][k] == api.Finished) {
-				x.t.Fatalf("P17: %+v, order %d: stream %d ended: %t; its state is %d", x.Config, order, k, x.ended[side][k], x.state[side][k])
+			if !x.given[side][k] {
+				x.cameWhole(side, k, order)
+			} else {
+				x.cameInPart(side, k, order)
 			}
 		}
+	}
+}
+
+func (x *talk) cameWhole(side int, k int, order int) {
+	if !bytes.Equal(x.got[side][k], x.text[side][k]) {
+		x.t.Fatalf("P17: %+v, order %d: stream %d: behind %d ticks %d bytes of %d came", x.Config, order, k, x.bound(), len(x.got[side][k]), len(x.text[side][k]))
+	}
+	if x.ended[side][k] != (x.state[side][k] == api.Finished) || x.state[side][k] == api.Reset {
+		x.t.Fatalf("P17: %+v, order %d: stream %d ended: %t; its state is %d", x.Config, order, k, x.ended[side][k], x.state[side][k])
+	}
+}
+
+// cameInPart: of a stream that was given up. (One that was read to its end ahead of that stays Finished.)
+func (x *talk) cameInPart(side int, k int, order int) {
+	if len(x.got[side][k]) < x.keep[side][k] {
+		x.t.Fatalf("P17, P20: %+v, order %d: stream %d was given up but for %d bytes: %d came", x.Config, order, k, x.keep[side][k], len(x.got[side][k]))
+	}
+	if finished := x.ended[side][k] && x.state[side][k] == api.Finished; x.state[side][k] != api.Reset && !finished {
+		x.t.Fatalf("P17, P20: %+v, order %d: stream %d was given up; its state is %d", x.Config, order, k, x.state[side][k])
 	}
 }
 
@@ -235,8 +306,8 @@ func extremes() []api.Config {
 	return l
 }
 
-// TestP8ToP17Talk: every call is held to what the model of a side knows, over a bad network and then over a fair one.
-func TestP8ToP17Talk(t *testing.T) {
+// TestP8ToP20Talk: every call is held to what the model of a side knows, over a bad network and then over a fair one.
+func TestP8ToP20Talk(t *testing.T) {
 	packets := 0
 	for seed := range uint64(200) {
 		random := rand.New(rand.NewPCG(8, seed))
@@ -250,6 +321,12 @@ func TestP8ToP17Talk(t *testing.T) {
 				}
 				if random.IntN(12) == 0 {
 					x.end(side, random.IntN(8))
+				}
+				if seed%2 == 0 && random.IntN(12) == 0 {
+					x.giveUp(side, random.IntN(8), random.IntN(1<<random.IntN(12))-3)
+				}
+				for range random.IntN(1 + int(seed%4)*5) {
+					x.message(side, x.tick+uint64(random.IntN(5)), randomText(random, x.MTU-40))
 				}
 			}
 			x.bad(losses)

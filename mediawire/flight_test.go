@@ -9,10 +9,11 @@ const lateAcks = 64
 
 // flightModel: which packets are on their way, and which are lost (P16).
 type flightModel struct {
-	tick  uint64
-	named uint64 // the number above the highest one that an Ack has named
-	sent  map[uint64]*sentModel
-	acked map[[2]int]uint64 // the highest limit of grants that an Ack has named, by kind and stream
+	tick    uint64
+	named   uint64 // the number above the highest one that an Ack has named
+	sent    map[uint64]*sentModel
+	acked   map[[2]int]uint64 // the highest limit of grants that an Ack has named, by kind and stream
+	noticed map[int]uint64    // the least Reliable of ResetAt frames that an Ack has named, by stream
 }
 
 // sentModel: a packet with another frame than Acks that no Ack has named.
@@ -32,7 +33,7 @@ type placeModel struct {
 func (p placeModel) waits() bool { return p.onWay == 0 && !p.sure && !p.late }
 
 func newFlightModel() flightModel {
-	return flightModel{sent: map[uint64]*sentModel{}, acked: map[[2]int]uint64{}}
+	return flightModel{sent: map[uint64]*sentModel{}, acked: map[[2]int]uint64{}, noticed: map[int]uint64{}}
 }
 
 // count: how many are on their way.
@@ -49,6 +50,7 @@ func (f *flightModel) count() int {
 func (m *sideModel) clock() {
 	m.c.Tick()
 	m.flight.tick++
+	m.expire()
 }
 
 // eachPlace: the places of the bytes and ends that a packet has.
@@ -115,8 +117,12 @@ func (m *sideModel) landOne(n uint64, s *sentModel) {
 	})
 	for _, f := range s.frames {
 		key := [2]int{f.Kind, f.Stream}
-		if known {
-			m.flight.acked[key] = max(m.flight.acked[key], f.Limit)
+		if !known {
+			continue
+		}
+		m.flight.acked[key] = max(m.flight.acked[key], f.Limit)
+		if least, told := m.flight.noticed[f.Stream]; f.Kind == api.ResetAt && (!told || f.Reliable < least) {
+			m.flight.noticed[f.Stream] = f.Reliable
 		}
 	}
 }
@@ -151,7 +157,7 @@ func (m *sideModel) dataIsNew(f api.Frame) {
 	})
 }
 
-// noGrantLeft: grants that were lost are sent again. (Behind an end that is known a stream needs none.)
+// noGrantLeft: grants that were lost are sent again. (A stream of which a frame came that ends where its last bytes do, or behind them, needs none.)
 func (m *sideModel) noGrantLeft() {
 	if m.flight.count() >= 12 {
 		return
@@ -161,8 +167,10 @@ func (m *sideModel) noGrantLeft() {
 	}
 	for k := range m.in {
 		told := max(m.told(api.MaxStream, k), uint64(m.Window))
-		if told < m.in[k].granted && !m.in[k].ended {
-			m.t.Fatalf("P16: MaxStream %d of %d was lost, and is not sent again", m.in[k].granted, k)
+		in := &m.in[k]
+		enough := in.ended && in.high >= in.end || in.given && in.high >= in.least
+		if told < in.granted && !enough {
+			m.t.Fatalf("P16: MaxStream %d of %d was lost, and is not sent again", in.granted, k)
 		}
 	}
 }

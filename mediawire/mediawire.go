@@ -42,31 +42,38 @@ func (c *Conn) Send(k int, b []byte) error { return c.made().Send(k, b) }
 func (c *Conn) Finish(k int) error { return c.made().Finish(k) }
 
 // Reset: a stream is given up, but for its first bytes (P20).
-func (c *Conn) Reset(k int, keep int) error { return nil }
+func (c *Conn) Reset(k int, keep int) error { return c.made().Reset(k, keep) }
 
 // Datagram: a message that is worth something up to its deadline (P18).
-func (c *Conn) Datagram(id uint64, deadline uint64, b []byte) error { return nil }
+func (c *Conn) Datagram(id uint64, deadline uint64, b []byte) error {
+	return c.made().Datagram(id, deadline, b)
+}
 
 // Tick: a tick has passed (P8).
 func (c *Conn) Tick() { c.made().Tick() }
 
-// Packets: what is to be sent now (P10, P11).
+// Packets: what is to be sent now (P10, P11, P16, P18, P21).
 func (c *Conn) Packets() [][]byte { return c.made().Packets() }
 
-// Receive: a packet came (P12 to P14).
+// Receive: a packet came (P12 to P14, P19 to P21).
 func (c *Conn) Receive(b []byte) error { return c.made().Receive(b) }
 
-// Read: bytes of a stream that came, and its state (P15).
+// Read: bytes of a stream that came, and its state (P15, P20).
 func (c *Conn) Read(k int, most int) ([]byte, int, error) { return c.made().Read(k, most) }
 
 // Datagrams: messages that came (P19).
-func (c *Conn) Datagrams() []api.Message { return nil }
+func (c *Conn) Datagrams() []api.Message { return c.made().Datagrams() }
 
 // Close ends it (P21).
-func (c *Conn) Close() error { return nil }
+func (c *Conn) Close() error { return c.made().Close() }
 
 // Err: why it is closed (P21).
 func (c *Conn) Err() error { return c.made().Err() }
 
 // Pump lets two sides talk (P22).
-func Pump(a *Conn, b *Conn, ticks int) int { return 0 }
+func Pump(a *Conn, b *Conn, ticks int) int {
+	if a == b {
+		return 0
+	}
+	return side.Pump(a.made(), b.made(), ticks)
+}

@@ -10,7 +10,7 @@ import (
 	"mediawire/mediawire"
 )
 
-// sideModel is a side, and all that P8 to P16 let one know of it from the calls alone. Each call on it is held to that.
+// sideModel is a side, and all that P8 to P21 let one know of it from the calls alone. Each call on it is held to that.
 type sideModel struct {
 	t *testing.T
 	c *mediawire.Conn
@@ -24,16 +24,30 @@ type sideModel struct {
 	came     map[uint64]bool
 	numbers  *mediawire.Set
 	due      []uint64 // came since the last Packets, with another frame than Ack
+	queue    queueModel
+	inbox    inboxModel
 	why      error
+	parted   bool
 	packetsN int
 }
 
 type outModel struct {
 	text     []byte
 	finished bool
+	given    bool
+	keep     int    // if it was given up: so many bytes will be sent
+	offset   uint64 // likewise: where it ends
 	limit    uint64
 	high     uint64 // the highest end that was sent
 	places   [2049]placeModel
+}
+
+// last: how many bytes of it will be sent, as it is now.
+func (o *outModel) last() int {
+	if o.given {
+		return o.keep
+	}
+	return len(o.text)
 }
 
 type inModel struct {
@@ -41,12 +55,24 @@ type inModel struct {
 	high    uint64
 	ended   bool
 	end     uint64
+	given   bool
+	least   uint64 // if it was given up: the least Reliable
+	state   int    // as Read has told it
 	read    uint64
 	granted uint64
 }
 
+// free: the bytes that take no room.
+func (in *inModel) free() uint64 {
+	if in.state == api.Reset {
+		return in.end
+	}
+	return in.read
+}
+
 func newSideModel(t *testing.T, c api.Config) *sideModel {
 	m := &sideModel{t: t, c: newSide(t, c), Config: c, limit: uint64(c.Total), granted: uint64(c.Total), flight: newFlightModel(), came: map[uint64]bool{}, numbers: mediawire.NewSet(8)}
+	m.inbox.handed = map[uint64]bool{}
 	for k := range 8 {
 		m.out[k].limit = uint64(c.Window)
 		m.in[k].granted = uint64(c.Window)
@@ -62,7 +88,7 @@ func (m *sideModel) refused(k int, more int) error {
 		return api.ErrClosed
 	case k < 0 || k > 7:
 		return api.ErrStream
-	case m.out[k].finished:
+	case m.out[k].finished || m.out[k].given:
 		return api.ErrState
 	case len(m.out[k].text)+more > 2048:
 		return api.ErrFull
@@ -93,6 +119,7 @@ func (m *sideModel) finish(k int) {
 func (m *sideModel) packets() [][]byte {
 	l := m.c.Packets()
 	if m.why != nil {
+		m.partedWith(l)
 		return l
 	}
 	m.lose()
@@ -108,6 +135,8 @@ func (m *sideModel) packets() [][]byte {
 	m.answered(all)
 	m.nothingLeft()
 	m.noGrantLeft()
+	m.noNoticeLeft()
+	m.noDatagramLeft()
 	m.packetsN += len(l)
 	return l
 }
@@ -117,6 +146,7 @@ func (m *sideModel) onePacket(p api.Packet) {
 		m.t.Fatalf("P10: packet %d, want %d", p.Number, m.next)
 	}
 	m.next++
+	m.datagramAhead(p)
 	last := 1
 	for _, f := range p.Frames {
 		if order(f.Kind) < last {
@@ -135,20 +165,24 @@ func (m *sideModel) oneFrame(f api.Frame) {
 	switch f.Kind {
 	case api.Data:
 		m.dataSent(f)
+	case api.Datagram:
+		m.datagramSent(f)
+	case api.ResetAt:
+		m.noticeSent(f)
 	case api.MaxData:
 		free := uint64(0)
 		for k := range m.in {
-			free += m.in[k].read
+			free = min(most, free+m.in[k].free())
 		}
-		if f.Limit < m.granted || f.Limit > free+uint64(m.Total) {
-			m.t.Fatalf("P11: MaxData %d behind %d, %d bytes were read", f.Limit, m.granted, free)
+		if f.Limit < m.granted || f.Limit > min(most, free+uint64(m.Total)) {
+			m.t.Fatalf("P11: MaxData %d behind %d, %d bytes take no room", f.Limit, m.granted, free)
 		}
 		m.grantIsNew(f)
 		m.granted = f.Limit
 	case api.MaxStream:
 		in := &m.in[f.Stream]
-		if f.Limit < in.granted || f.Limit > in.read+uint64(m.Window) {
-			m.t.Fatalf("P11: MaxStream %d behind %d, %d bytes were read", f.Limit, in.granted, in.read)
+		if f.Limit < in.granted || f.Limit > in.free()+uint64(m.Window) {
+			m.t.Fatalf("P11: MaxStream %d behind %d, %d bytes take no room", f.Limit, in.granted, in.free())
 		}
 		m.grantIsNew(f)
 		in.granted = f.Limit
@@ -158,11 +192,14 @@ func (m *sideModel) oneFrame(f api.Frame) {
 func (m *sideModel) dataSent(f api.Frame) {
 	o := &m.out[f.Stream]
 	end := f.Offset + uint64(len(f.Data))
-	if end > uint64(len(o.text)) || end > o.limit || string(o.text[f.Offset:end]) != f.Data {
-		m.t.Fatalf("P11: %+v, %d bytes were written, %d are granted", f, len(o.text), o.limit)
+	if end > uint64(o.last()) || end > o.limit || string(o.text[f.Offset:end]) != f.Data {
+		m.t.Fatalf("P11, P20: %+v, %d bytes are to be sent, %d are granted", f, o.last(), o.limit)
 	}
-	if fin := o.finished && end == uint64(len(o.text)); f.Fin != fin || !fin && f.Data == "" {
-		m.t.Fatalf("P11: %+v, %d bytes were written, finished: %t", f, len(o.text), o.finished)
+	if fin := o.finished && !o.given && end == uint64(len(o.text)); f.Fin != fin || !fin && f.Data == "" {
+		m.t.Fatalf("P11: %+v, %d bytes were written, finished: %t, given up: %t", f, len(o.text), o.finished, o.given)
+	}
+	if m.queue.waiting != nil {
+		m.t.Fatalf("P18: %+v is sent, and %d datagrams wait", f, len(m.queue.waiting))
 	}
 	o.high = max(o.high, end)
 	m.dataIsNew(f)
@@ -207,15 +244,15 @@ func (m *sideModel) nothingLeft() {
 	}
 	for k := range m.out {
 		o := &m.out[k]
-		if o.high < uint64(len(o.text)) && o.high < o.limit && m.highs() < m.limit {
-			m.t.Fatalf("P10: stream %d: %d of %d bytes are sent, %d granted, %d of %d of all", k, o.high, len(o.text), o.limit, m.highs(), m.limit)
+		if o.high < uint64(o.last()) && o.high < o.limit && m.highs() < m.limit {
+			m.t.Fatalf("P10: stream %d: %d of %d bytes are sent, %d granted, %d of %d of all", k, o.high, o.last(), o.limit, m.highs(), m.limit)
 		}
-		for i := range o.high {
+		for i := range min(o.high, uint64(o.last())) {
 			if o.places[i].waits() {
 				m.t.Fatalf("P16: stream %d: byte %d was lost, and is not sent again", k, i)
 			}
 		}
-		if o.finished && o.high == uint64(len(o.text)) && o.places[o.high].waits() {
+		if o.finished && !o.given && o.high == uint64(len(o.text)) && o.places[o.high].waits() {
 			m.t.Fatalf("P10, P16: stream %d: its end is not sent", k)
 		}
 	}
@@ -280,6 +317,12 @@ func (m *sideModel) takeFrame(f api.Frame) error {
 		m.out[f.Stream].limit = max(m.out[f.Stream].limit, f.Limit)
 	case api.Data:
 		return m.takeData(f)
+	case api.ResetAt:
+		return m.takeReset(f)
+	case api.Datagram:
+		m.inbox.came = append(m.inbox.came, cameModel{f, m.flight.tick})
+	case api.Close:
+		return api.ErrPeer
 	}
 	return nil
 }
@@ -321,8 +364,17 @@ func (m *sideModel) read(k int, most int) ([]byte, int) {
 		return nil, 0
 	}
 	in := &m.in[k]
+	want := in.next(most)
+	if !bytes.Equal(b, want) || b != nil && len(b) == 0 || state != in.state || err != nil {
+		m.t.Fatalf("P15, P20: Read(%d, %d) = %q, %d, %v, want %q, %d", k, most, b, state, err, want, in.state)
+	}
+	return b, state
+}
+
+// next: what Read should hand out; the state behind it is that of the stream then.
+func (in *inModel) next(most int) []byte {
 	var want []byte
-	for len(want) < most {
+	for in.state == api.Open && len(want) < most && !(in.given && in.read >= in.least) {
 		x, ok := in.bytes[in.read]
 		if !ok {
 			break
@@ -330,14 +382,14 @@ func (m *sideModel) read(k int, most int) ([]byte, int) {
 		want = append(want, x)
 		in.read++
 	}
-	wantState := api.Open
-	if in.ended && in.read == in.end {
-		wantState = api.Finished
+	switch {
+	case in.state != api.Open:
+	case in.given && in.read >= in.least:
+		in.state = api.Reset
+	case !in.given && in.ended && in.read == in.end:
+		in.state = api.Finished
 	}
-	if !bytes.Equal(b, want) || b != nil && len(b) == 0 || state != wantState || err != nil {
-		m.t.Fatalf("P15: Read(%d, %d) = %q, %d, %v, want %q, %d", k, most, b, state, err, want, wantState)
-	}
-	return b, state
+	return want
 }
 
 func randomConfig(random *rand.Rand) api.Config {
@@ -359,7 +411,7 @@ func randomText(random *rand.Rand, most int) []byte {
 
 // step: something is done on the side.
 func (m *sideModel) step(random *rand.Rand) {
-	switch random.IntN(8) {
+	switch random.IntN(11) {
 	case 0, 1:
 		m.send(random.IntN(10)-1, randomText(random, 1<<random.IntN(12)))
 	case 2:
@@ -368,6 +420,14 @@ func (m *sideModel) step(random *rand.Rand) {
 		}
 	case 3:
 		m.clock()
+	case 4:
+		if random.IntN(4) == 0 {
+			m.reset(random.IntN(10)-1, random.IntN(1<<random.IntN(12))-5)
+		}
+	case 5:
+		m.datagram(m.queue.least+uint64(random.IntN(4))-min(m.queue.least, 1), m.flight.tick+uint64(random.IntN(4))-min(m.flight.tick, 1), randomText(random, m.MTU-39))
+	case 6:
+		m.datagrams()
 	default:
 		m.read(random.IntN(8), random.IntN(1<<random.IntN(12))-1)
 	}
@@ -375,10 +435,27 @@ func (m *sideModel) step(random *rand.Rand) {
 
 // hostile: a frame that a side might not expect, often at an edge of what it may hold.
 func (m *sideModel) hostile(random *rand.Rand) api.Frame {
-	near := func(n uint64) uint64 { return n + uint64(random.IntN(3)) - min(n, 1) }
+	near := func(n uint64) uint64 { return min(n+uint64(random.IntN(3))-min(n, 1), most) }
 	k := random.IntN(8)
 	in := m.in[k]
-	switch random.IntN(40) {
+	switch random.IntN(50) {
+	case 8, 9:
+		return api.Frame{Kind: api.Datagram, Id: min(m.inbox.greatest+uint64(random.IntN(40))-min(m.inbox.greatest, 35), most), Deadline: near(m.flight.tick), Data: string(randomText(random, 9))}
+	case 10:
+		return api.Frame{Kind: api.Datagram, Id: min(number(random), most), Deadline: min(number(random), most)}
+	case 11:
+		offset := near(in.high)
+		return resetAt(k, offset, min(offset, uint64(random.IntN(20))))
+	case 12:
+		return resetAt(k, in.end, min(in.end, uint64(random.IntN(20))))
+	case 13:
+		offset := min(number(random), most)
+		return resetAt(k, offset, min(offset, number(random)))
+	case 14:
+		if random.IntN(10) == 0 {
+			return api.Frame{Kind: api.Close, Limit: uint64(random.IntN(20))}
+		}
+		return api.Frame{Kind: api.Ping}
 	case 0:
 		return api.Frame{Kind: api.Ping}
 	case 1:
@@ -401,7 +478,7 @@ func (m *sideModel) hostile(random *rand.Rand) api.Frame {
 	return data(k, near(in.read)+uint64(random.IntN(6)), string(randomText(random, 10)), random.IntN(30) == 0)
 }
 
-func TestP12ToP15HostileFrames(t *testing.T) {
+func TestP12ToP21HostileFrames(t *testing.T) {
 	closed := map[error]int{}
 	for seed := range uint64(4000) {
 		random := rand.New(rand.NewPCG(12, seed))
@@ -420,11 +497,16 @@ func TestP12ToP15HostileFrames(t *testing.T) {
 				b = seal(b[:random.IntN(len(b))])
 			}
 			m.receive(b)
+			if random.IntN(200) == 0 {
+				m.close()
+			}
 		}
 		m.packets()
+		m.packets()
+		m.datagrams()
 		closed[m.why]++
 	}
-	for _, e := range []api.Errno{api.ErrFrame, api.ErrFlow, api.ErrFinal, api.ErrAck} {
+	for _, e := range []api.Errno{api.ErrFrame, api.ErrFlow, api.ErrFinal, api.ErrAck, api.ErrClosed, api.ErrPeer} {
 		if closed[e] < 50 {
 			t.Errorf("only %d sides were closed by %v: the test asks for too little", closed[e], e)
 		}
@@ -452,6 +534,7 @@ func TestP1ReceiveOfTurnedBodies(t *testing.T) {
 		m.packets()
 		m.read(random.IntN(8), 5)
 		if m.why != nil {
+			m.datagrams()
 			m = newSideModel(t, small)
 			m.send(2, body)
 		}
@@ -470,11 +553,14 @@ func FuzzReceive(f *testing.F) {
 	f.Fuzz(func(t *testing.T, body []byte, cut uint8) {
 		m := newSideModel(t, small)
 		m.send(0, []byte("abcdefgh"))
+		m.reset(1, 3)
+		m.datagram(uint64(cut), 5, body[:min(len(body), 30)])
 		for len(body) > 0 {
 			n := min(len(body), int(cut)+1)
 			m.receive(seal(body[:n]))
 			body = body[n:]
 			m.packets()
+			m.datagrams()
 			for k := range 8 {
 				m.read(k, int(cut%16))
 			}

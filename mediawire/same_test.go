@@ -1,9 +1,12 @@
 package mediawire_test
 
 import (
+	"fmt"
 	"math/rand/v2"
 	"slices"
 	"testing"
+
+	"mediawire/api"
 )
 
 // recorder keeps all that its side sends and tells.
@@ -26,6 +29,12 @@ func (r recorder) read(k int, most int) ([]byte, int) {
 	return b, state
 }
 
+func (r recorder) datagrams() []api.Message {
+	l := r.plainCaller.datagrams()
+	*r.log = append(*r.log, fmt.Sprint(l))
+	return l
+}
+
 // TestP2SameCallsSamePackets: what is sent, and sent again, hangs on the calls alone.
 func TestP2SameCallsSamePackets(t *testing.T) {
 	run := func(seed uint64) []string {
@@ -37,6 +46,12 @@ func TestP2SameCallsSamePackets(t *testing.T) {
 			x.write(random.IntN(2), random.IntN(8), randomText(random, 400))
 			if random.IntN(10) == 0 {
 				x.end(random.IntN(2), random.IntN(8))
+			}
+			if random.IntN(10) == 0 {
+				x.giveUp(random.IntN(2), random.IntN(8), random.IntN(500))
+			}
+			for range random.IntN(6) {
+				x.message(random.IntN(2), x.tick+uint64(random.IntN(6)), randomText(random, c.MTU-40))
 			}
 			x.bad(40)
 		}

@@ -4,6 +4,7 @@ import (
 	"bytes"
 	"errors"
 	"math"
+	"math/rand/v2"
 	"reflect"
 	"strings"
 	"testing"
@@ -45,6 +46,14 @@ func maxData(limit uint64) api.Frame { return api.Frame{Kind: api.MaxData, Limit
 
 func maxStream(k int, limit uint64) api.Frame {
 	return api.Frame{Kind: api.MaxStream, Stream: k, Limit: limit}
+}
+
+func resetAt(k int, offset uint64, reliable uint64) api.Frame {
+	return api.Frame{Kind: api.ResetAt, Stream: k, Offset: offset, Reliable: reliable}
+}
+
+func datagram(id uint64, deadline uint64, text string) api.Frame {
+	return api.Frame{Kind: api.Datagram, Id: id, Deadline: deadline, Data: text}
 }
 
 func one(n uint64) api.Range { return api.Range{Lo: n, Hi: n} }
@@ -289,13 +298,58 @@ func TestP1SidesThatNewDidNotMake(t *testing.T) {
 	for _, c := range []*mediawire.Conn{nil, {}} {
 		c.Tick()
 		b, state, read := c.Read(0, 1)
-		for i, err := range []error{c.Send(0, []byte("x")), c.Finish(0), c.Receive(nil), read, c.Err()} {
+		for i, err := range []error{c.Send(0, []byte("x")), c.Finish(0), c.Reset(0, 1), c.Datagram(1, 1, nil), c.Close(), c.Receive(nil), read, c.Err()} {
 			if err != api.ErrClosed {
 				t.Errorf("P1: row %d: %v", i, err)
 			}
 		}
-		if l := c.Packets(); l != nil || b != nil || state != 0 {
+		if l := c.Packets(); l != nil || b != nil || state != 0 || c.Datagrams() != nil {
 			t.Errorf("P1: %x, %q, %d", l, b, state)
+		}
+	}
+}
+
+// TestP1CallsAtAllNumbers: whatever a side is given, in whatever order, each call ends.
+func TestP1CallsAtAllNumbers(t *testing.T) {
+	random := rand.New(rand.NewPCG(1, 21))
+	whole := func() int { return int(number(random)) * (1 - 2*random.IntN(2)) }
+	stream := func() int {
+		if random.IntN(4) == 0 {
+			return whole()
+		}
+		return random.IntN(8)
+	}
+	for range 300 {
+		a, b := newSide(t, randomConfig(random)), newSide(t, randomConfig(random))
+		for range 100 {
+			if random.IntN(2) == 0 {
+				a, b = b, a
+			}
+			a.Send(stream(), randomText(random, 1<<random.IntN(12)))
+			a.Reset(stream(), whole())
+			a.Datagram(number(random), number(random), randomText(random, 400))
+			a.Read(stream(), whole())
+			switch random.IntN(40) {
+			case 0:
+				a.Finish(stream())
+			case 1:
+				ticks(a, random.IntN(10))
+			case 2:
+				mediawire.Pump(a, b, random.IntN(20))
+			case 3:
+				a.Datagrams()
+			case 4:
+				mediawire.Pump(a, b, min(whole(), 0))
+			case 5:
+				if random.IntN(20) == 0 {
+					a.Close()
+				}
+			default:
+				for _, p := range a.Packets() {
+					b.Receive(p)
+				}
+			}
+			a.Err()
 		}
 	}
 }

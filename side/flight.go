@@ -9,7 +9,7 @@ import (
 // flight: packets that no Ack has named yet, by their numbers. (What has Acks alone is never there: nobody answers it.)
 type flight map[uint64]parcel
 
-// parcel: what a packet holds, but for Acks, and the tick at which it was sent.
+// parcel: what of a packet is sent again if it is lost, and the tick at which it was sent.
 type parcel struct {
 	frames []api.Frame
 	tick   uint64

@@ -11,11 +11,13 @@ import (
 func (s *Side) sources() *sources {
 	q := &sources{}
 	q.add(s.acks())
-	q.add(s.whileRoom(s.maxData()))
+	q.add(s.besideDatagrams(s.maxData()))
 	for k := range s.streams {
-		q.add(s.whileRoom(s.maxStream(k)))
+		q.add(s.besideDatagrams(s.maxStream(k)))
+		q.add(s.besideDatagrams(s.resetAt(k)))
 		q.add(s.whileRoom(s.data(k)))
 	}
+	q.add(s.whileRoom(s.datagrams()))
 	return q
 }
 
@@ -24,6 +26,14 @@ func (s *Side) whileRoom(x source) source {
 	waits := x.waits
 	x.waits = func() bool { return !s.onWay.full() && waits() }
 	return x
+}
+
+// besideDatagrams: the source, as far as it leaves room in the packet for a datagram that waits: so no datagram waits for the sake of a grant, and grants go beside however many datagrams.
+func (s *Side) besideDatagrams(x source) source {
+	next := x.next
+	x.next = func(room int) (api.Frame, bool) { return next(room - s.queue.Size()) }
+	x.yields = true
+	return s.whileRoom(x)
 }
 
 // acks names all packets that are remembered, not the new ones alone: an Ack ahead may have been lost.
@@ -70,7 +80,7 @@ func (s *Side) maxData() source {
 func (s *Side) free() uint64 {
 	sum := uint64(0)
 	for k := range s.streams {
-		sum += s.streams[k].in.Free()
+		sum = min(sum+s.streams[k].in.Free(), api.MaxValue) // each may be as great as that: the end of a stream that was given up
 	}
 	return sum
 }
@@ -83,6 +93,21 @@ func (s *Side) maxStream(k int) source {
 		waits:   in.GrantWaits,
 		next:    func(room int) (api.Frame, bool) { return in.NextGrant(k, room) },
 	}
+}
+
+// resetAt tells that a stream was given up.
+func (s *Side) resetAt(k int) source {
+	out := &s.streams[k].out
+	return source{
+		urgency: ofResetAt + k,
+		waits:   out.NoticeWaits,
+		next:    func(room int) (api.Frame, bool) { return out.NextNotice(k, room) },
+	}
+}
+
+// datagrams sends those that wait. While one does, there is no room for bytes of streams.
+func (s *Side) datagrams() source {
+	return source{urgency: ofDatagrams, waits: s.queue.Waits, next: s.queue.Next}
 }
 
 // data sends a stream on: those of smaller numbers ahead of the others.

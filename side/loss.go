@@ -9,7 +9,7 @@ import (
 // lateAcks: a lost packet is remembered until so many others were sent: an Ack of it may only be late, and what it names need not be sent once more.
 const lateAcks = 64
 
-// book is kept of all that must come to the other side: of a stream's bytes and end, of a grant.
+// book is kept of all that must come to the other side: of a stream's bytes and end, of its being given up, of a grant.
 type book interface {
 	Away(f api.Frame) // the frame is on its way
 	Came(f api.Frame) // an Ack has named a packet that holds it
@@ -21,10 +21,22 @@ func (s *Side) bookOf(f api.Frame) book {
 	switch f.Kind {
 	case api.Data:
 		return &s.streams[f.Stream].out
+	case api.ResetAt:
+		return s.streams[f.Stream].out.Notice()
 	case api.MaxStream:
 		return s.streams[f.Stream].in.Grant()
 	}
 	return &s.grant
+}
+
+// books: all that are kept.
+func (s *Side) books() []book {
+	l := []book{&s.grant}
+	for k := range s.streams {
+		x := &s.streams[k]
+		l = append(l, &x.out, x.out.Notice(), x.in.Grant())
+	}
+	return l
 }
 
 // land: an Ack names these packets. (The first range has the greatest numbers.)
@@ -55,10 +67,8 @@ func (s *Side) lose() {
 	}
 	maps.Copy(s.lost, lost)
 	maps.DeleteFunc(s.lost, func(n uint64, _ parcel) bool { return n+lateAcks < s.next })
-	s.grant.Lose()
-	for k := range s.streams {
-		s.streams[k].out.Lose()
-		s.streams[k].in.Grant().Lose()
+	for _, b := range s.books() {
+		b.Lose()
 	}
 	for f := range s.onWay.frames() {
 		s.bookOf(f).Away(f)

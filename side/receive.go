@@ -8,7 +8,7 @@ import (
 	"mediawire/wire"
 )
 
-// Receive: a packet came (P12).
+// Receive: a packet came (P12 to P14, P19 to P21).
 func (s *Side) Receive(b []byte) error {
 	if !s.open() {
 		return api.ErrClosed
@@ -28,7 +28,7 @@ func (s *Side) Receive(b []byte) error {
 
 func (s *Side) takeAll(p api.Packet) error {
 	s.came.Add(p.Number, p.Number)
-	s.answer = s.answer || len(toAnswer(p.Frames)) > 0
+	s.answer = s.answer || wantsAnswer(p.Frames)
 	for _, f := range p.Frames {
 		if s.why = s.take(f); !s.open() {
 			return s.why
@@ -44,6 +44,12 @@ func (s *Side) take(f api.Frame) api.Errno {
 		return s.takeAck(f)
 	case api.Data:
 		return s.takeData(f)
+	case api.ResetAt:
+		return s.takeReset(f)
+	case api.Close:
+		return api.ErrPeer
+	case api.Datagram:
+		s.inbox.Take(f, s.tick)
 	case api.MaxData:
 		s.limit = max(s.limit, f.Limit)
 	case api.MaxStream:
@@ -71,6 +77,16 @@ func (s *Side) takeData(f api.Frame) api.Errno {
 		return api.ErrFlow
 	}
 	in.Take(f)
+	return api.OK
+}
+
+// takeReset (P20).
+func (s *Side) takeReset(f api.Frame) api.Errno {
+	in := &s.streams[f.Stream].in
+	if e := in.RefuseReset(f); e != api.OK {
+		return e
+	}
+	in.TakeReset(f)
 	return api.OK
 }
 

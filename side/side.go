@@ -1,8 +1,9 @@
-// Package side: one side of a connection (P8 to P17).
+// Package side: one side of a connection, and the talk of two (P8 to P22).
 package side
 
 import (
 	"mediawire/api"
+	"mediawire/datagram"
 	"mediawire/numbers"
 	"mediawire/stream"
 )
@@ -19,7 +20,9 @@ type Side struct {
 	next    uint64       // the number of the next packet
 	onWay   flight
 	lost    flight
-	named   uint64    // the number above the highest one that an Ack has named
+	named   uint64 // the number above the highest one that an Ack has named
+	queue   datagram.Queue
+	inbox   datagram.Inbox
 	why     api.Errno // why it is closed; OK: it is open
 	parted  bool      // the other side was told why
 }
@@ -42,6 +45,7 @@ func New(c api.Config) (*Side, error) {
 		came:   numbers.NewSet(api.MaxRanges),
 		onWay:  flight{},
 		lost:   flight{},
+		inbox:  datagram.NewInbox(),
 	}
 	for k := range s.streams {
 		s.streams[k] = both{out: stream.NewOut(c.Window), in: stream.NewIn(c.Window)}
@@ -60,10 +64,13 @@ func sound(c api.Config) bool {
 
 func within(n, least, most int) bool { return least <= n && n <= most }
 
-// Tick: a tick has passed.
-func (s *Side) Tick() { s.tick++ }
+// Tick: a tick has passed (P8).
+func (s *Side) Tick() {
+	s.tick++
+	s.queue.Expire(s.tick)
+}
 
-// Err: why it is closed.
+// Err: why it is closed (P21).
 func (s *Side) Err() error {
 	if s.open() {
 		return nil
@@ -72,6 +79,15 @@ func (s *Side) Err() error {
 }
 
 func (s *Side) open() bool { return s.why == api.OK }
+
+// Close ends it (P21).
+func (s *Side) Close() error {
+	if !s.open() {
+		return api.ErrClosed
+	}
+	s.why = api.ErrClosed
+	return nil
+}
 
 // stream: the streams of a number, if the side is open and there are such.
 func (s *Side) stream(k int) (*both, error) {
@@ -102,7 +118,17 @@ func (s *Side) Finish(k int) error {
 	return x.out.Finish()
 }
 
-// Read: bytes of a stream that came, and its state (P15).
+// Reset: a stream is given up, but for its first keep bytes (P20).
+func (s *Side) Reset(k int, keep int) error {
+	x, err := s.stream(k)
+	if err != nil {
+		return err
+	}
+	x.out.Reset(keep)
+	return nil
+}
+
+// Read: bytes of a stream that came, and its state (P15, P20).
 func (s *Side) Read(k int, most int) ([]byte, int, error) {
 	x, err := s.stream(k)
 	if err != nil {
@@ -111,3 +137,19 @@ func (s *Side) Read(k int, most int) ([]byte, int, error) {
 	b, state := x.in.Read(most)
 	return b, state, nil
 }
+
+// besideDatagram: what a packet may need beside the bytes of a datagram.
+const besideDatagram = 40
+
+// Datagram: a message waits to be sent (P18).
+func (s *Side) Datagram(id uint64, deadline uint64, b []byte) error {
+	if !s.open() {
+		return api.ErrClosed
+	}
+	err := s.queue.Add(id, deadline, b, s.MTU-besideDatagram)
+	s.queue.Expire(s.tick)
+	return err
+}
+
+// Datagrams: the messages that came since the last call (P19). A side that is closed still hands them on.
+func (s *Side) Datagrams() []api.Message { return s.inbox.Empty() }

@@ -12,6 +12,7 @@ type source struct {
 	urgency int
 	waits   func() bool                      // it has a frame to send now
 	next    func(room int) (api.Frame, bool) // that frame; false, if it has no room
+	yields  bool                             // where it has no room in a packet, what is less urgent may go ahead in that
 }
 
 // The urgency of each kind of source, in the order of P10; those of streams have one for each stream.
@@ -19,6 +20,8 @@ const (
 	ofAcks = iota * api.MaxStreams
 	ofMaxData
 	ofMaxStream
+	ofResetAt
+	ofDatagrams
 	ofData
 )
 
@@ -42,9 +45,10 @@ func (q *sources) Pop() any {
 
 func (q *sources) add(x source) { heap.Push(q, x) }
 
-// fill: the frames of a packet that has so much room: none, if no source has any more. What is more urgent is never passed over for what still has room: so the frames stay in order.
+// fill: the frames of a packet that has so much room: none, if no source has any more. What does not yield is never passed over: so no bytes go ahead of a datagram, and no stream ahead of one with a smaller number.
 func (q *sources) fill(room int) []api.Frame {
 	var l []api.Frame
+	var later sources
 	for q.Len() > 0 {
 		most := (*q)[0]
 		if !most.waits() {
@@ -52,11 +56,19 @@ func (q *sources) fill(room int) []api.Frame {
 			continue
 		}
 		f, ok := most.next(room)
-		if !ok {
+		if ok {
+			l = append(l, f)
+			room -= wire.Size(f)
+			continue
+		}
+		if !most.yields {
 			break
 		}
-		l = append(l, f)
-		room -= wire.Size(f)
+		heap.Pop(q)
+		later = append(later, most)
+	}
+	for _, x := range later {
+		q.add(x)
 	}
 	return l
 }

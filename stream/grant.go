@@ -1,4 +1,4 @@
-// Package stream: one stream, for the side that writes it (Out) and for the side that reads it (In), and how far its bytes may go (Grant).
+// Package stream: one stream, for the side that writes it (Out) and for the side that reads it (In), how far its bytes may go (Grant), and that it was given up (Notice).
 package stream
 
 import (

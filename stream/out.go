@@ -6,10 +6,11 @@ import (
 	"mediawire/wire"
 )
 
-// Out is a stream for the side that writes it (P9, P11, P16). The place of a byte is its offset; the place of the stream's end is that behind its last byte.
+// Out is a stream for the side that writes it (P9, P11, P16, P20). The place of a byte is its offset; the place of the stream's end is that behind its last byte.
 type Out struct {
-	bytes    []byte // all that were written
+	bytes    []byte // all that were written; of a stream that was given up those that will still be sent
 	finished bool
+	notice   Notice      // that it was given up
 	limit    uint64      // the other side has granted the bytes ahead of it
 	sent     uint64      // the bytes ahead of it were sent, once or more often
 	away     numbers.Set // the places that are on their way, or came
@@ -31,7 +32,7 @@ func NewOut(limit int) Out {
 // Send: the bytes are the stream's next ones.
 func (o *Out) Send(b []byte) error {
 	switch {
-	case o.finished:
+	case o.closed():
 		return api.ErrState
 	case len(b) > api.MaxBuffer-len(o.bytes):
 		return api.ErrFull
@@ -42,11 +43,32 @@ func (o *Out) Send(b []byte) error {
 
 // Finish: the stream ends here.
 func (o *Out) Finish() error {
-	if o.finished {
+	if o.closed() {
 		return api.ErrState
 	}
 	o.finished = true
 	return nil
+}
+
+// closed: no more bytes can be written to it.
+func (o *Out) closed() bool { return o.finished || o.notice.given }
+
+// Reset: the stream is given up, but for its first keep bytes. (Those that were given up ahead of that stay so: they are gone.)
+func (o *Out) Reset(keep int) {
+	n := min(max(keep, 0), len(o.bytes))
+	o.bytes = o.bytes[:n:n]
+	o.notice.give(max(o.sent, o.length()))
+}
+
+// Notice: what the other side was told of its being given up.
+func (o *Out) Notice() *Notice { return &o.notice }
+
+// NoticeWaits: the other side is to be told that it was given up.
+func (o *Out) NoticeWaits() bool { return o.notice.waits(o.length()) }
+
+// NextNotice: the ResetAt frame of the stream, which is that of number k; false, if it has no room.
+func (o *Out) NextNotice(k int, room int) (api.Frame, bool) {
+	return o.notice.next(k, o.length(), room)
 }
 
 // Allow: the other side grants the bytes ahead of limit. (One that lies lower came late: it takes nothing back.)
@@ -62,8 +84,10 @@ func (o *Out) reach(credit uint64) uint64 {
 	return min(o.length(), o.limit, o.sent+credit)
 }
 
-// endsAt: a frame that ends there has its last bytes, and says so.
-func (o *Out) endsAt(end uint64) bool { return o.finished && end == o.length() }
+// endsAt: a frame that ends there has its last bytes, and says so. (That a stream was given up its notice says.)
+func (o *Out) endsAt(end uint64) bool {
+	return o.finished && !o.notice.given && end == o.length()
+}
 
 // waiting: the first places that may be sent now: from lo on, ahead of hi. Whether they were lost or never sent is all one.
 func (o *Out) waiting(credit uint64) (lo uint64, hi uint64) {
